@@ -1,0 +1,1 @@
+"""Tickworks: programs of streams that tick together."""
