@@ -3,7 +3,7 @@
 import re
 
 from cases import Case, NOTHINGS
-from samples import ALL, KEYWORDS, OPS, PROGRAMS, SUM, TWICE, TWO
+from samples import ALL, KEYWORDS, OPS, PROGRAMS, SUM, TWICE, TWO, YES_NO
 from tickworks.errors import (
     BadProgram, BadText, BadType, MixedTypes, NameMissing, TickError, TooMany, TwiceTold, UnknownName,
 )
@@ -111,6 +111,21 @@ class TestTexts(Case):
             self.assertIsInstance(back, Program)
             self.assertEqual(back, made)
             self.exact(back.nodes(), nodes)
+
+    def test_equations_that_begin_like_other_lines(self):
+        lines = ["node out", "in i lot(no,yes)", "in in count(2)", "out node out", "node = op not i",
+                 "out = op not node", "equation = when in i yes", "node in", "in out lot(no,yes)",
+                 "in node count(2)", "out in", "in a = call out out node : out no"]
+        made = read_program(text_of(lines))
+        self.exact(made.nodes(), [
+            ("out", (("i", YES_NO), ("in", TWO)), ("node", "out"), (
+                (("node",), ("op", "not", ("i",))), (("out",), ("op", "not", ("node",))),
+                (("equation",), ("when", "in", "i", "yes")))),
+            ("in", (("out", YES_NO), ("node", TWO)), ("in",), (
+                (("in", "a"), ("call", "out", ("out", "node"), ("out", "no"))),))])
+        self.exact(program_text(made), text_of(lines))
+        for number in range(len(lines)):
+            self.check_read(text_of(lines[:number] + lines[number + 1:]))
 
     def test_what_is_no_string(self):
         for value in NOTHINGS:
@@ -262,7 +277,8 @@ class TestTexts(Case):
             ([*SMALL[:3], "a = op minus i i"], (0, 3, 0, 1, 1)), ([*SMALL[:3], "a = op plus i"], (0, 3, 0, 1, 2)),
             ([*SMALL[:3], "a = op not i i"], (0, 3, 0, 1, 2)), ([*SMALL[:3], "a = op plus i i i i i"], (0, 3, 0, 1, 2)),
             ([*SMALL[:2], "out a b c d e", SMALL[3]], (0, 2)), ([*SMALL[:3], "a b c d e = op plus i i"], (0, 3, 0, 0)),
-            ([*SMALL[:3], "a = choose i i i i i i"], (0, 3, 0, 1, 2)), ([*SMALL[:3], "a = call n i i i i i"], (0, 3, 0, 1, 2)),
+            ([*SMALL[:3], "a = choose i i i i i i"], (0, 3, 0, 1, 2)),
+            ([*SMALL[:3], "a = call n i i i i i"], (0, 3, 0, 1, 2)),
             ([*SMALL[:3], "a = table count(2) 0 1 : i i i i i"], (0, 3, 0, 1, 3)),
             ([*SMALL[:3], "a = table count(2)" + " 0" * 61 + " : i"], (0, 3, 0, 1, 2)),
             ([SMALL[0], *five, *SMALL[2:]], (0, 1)), ([*SMALL[:3], *plus], (0, 3)),

@@ -44,7 +44,8 @@ class TestTicks(Case):
                 self.exact(present_in(Program(nodes), state, inputs), None)
 
     def test_one_stream_alone_is_bad(self):
-        for right, want in [(("held", TWO, 0, "q", "q"), ("stuck", ("q",))), (("op", "plus", ("q", "i")), ("stuck", ("q",))),
+        for right, want in [(("held", TWO, 0, "q", "q"), ("stuck", ("q",))),
+                            (("op", "plus", ("q", "i")), ("stuck", ("q",))),
                             (("op", "plus", ("w", "i")), ("clash", ("q",)))]:
             made = Program([("n", (("i", TWO), ("b", YES_NO)), ("o",), (
                 (("o",), ("op", "plus", ("i", "i"))), (("w",), ("when", "i", "b", "yes")), (("q",), right)))])
@@ -190,8 +191,8 @@ class TestRuns(Case):
     def test_bad_inputs_ahead_of_all_ticks(self):
         made = Program([TURNS])
         good, crash = ("good", 2), ("crash", 1)
-        for rows, number in [([crash, good, ("good", 4)], 2), ([crash, ("stop",), None], 1), ([("good", True), crash], 0),
-                             ([good, crash, good, ["good", 2]], 3)]:
+        for rows, number in [([crash, good, ("good", 4)], 2), ([crash, ("stop",), None], 1),
+                             ([("good", True), crash], 0), ([good, crash, good, ["good", 2]], 3)]:
             self.raised(BadInputs, {"number": number}, run, made, rows)
             self.raised(BadInputs, {"number": number}, run_from, made, (1,), rows)
             self.raised(BadInputs, {"number": number}, state_after, made, (1,), rows)

@@ -305,7 +305,8 @@ class TestOperands(Case):
         rights = [
             (("input", TWO), ()), (("const", TWO, 1, "i"), ("i",)), (("op", "not", ("a",)), ("a",)),
             (("op", "plus", ("a", "b")), ("a", "b")), (("op", "plus", ("a", "a")), ("a", "a")),
-            (("table", TWO, (0, 1), ("c", "a", "b")), ("c", "a", "b")), (("table", TWO, (0, 1), ("c", "c")), ("c", "c")),
+            (("table", TWO, (0, 1), ("c", "a", "b")), ("c", "a", "b")),
+            (("table", TWO, (0, 1), ("c", "c")), ("c", "c")),
             (("held", TWO, 1, "m", "like", ()), ("m", "like")), (("held", TWO, 1, "m", "m", ()), ("m", "m")),
             (("held", TWO, 1, "p.m", "p.i", (("c", "yes"), ("p.d", "no"))), ("p.m", "p.i")),
             (("when", "s", "c", "yes"), ("s", "c")), (("choose", "c", ("x", "y", "c")), ("c", "x", "y", "c")),

@@ -55,7 +55,8 @@ def passed(node, kinds, outputs):
     """Whether one pass over a node's equations finds a type; it puts it into kinds."""
     found = False
     for names, right in node[3]:
-        for name, kind in found_by(names, right, kinds, outputs):
+        told = found_by(names, right, kinds, outputs)
+        for name, kind in told:
             if kind is not None and name not in kinds:
                 kinds[name] = kind
                 found = True
