@@ -35,6 +35,13 @@ def check_tick(program, state, inputs):
         raise BadInputs(0)
 
 
+def check_all_inputs(program, inputs):
+    """BadInputs for the first of a list of any values that is no inputs."""
+    for number, row in enumerate(inputs):
+        if not is_inputs(program, row):
+            raise BadInputs(number)
+
+
 def first_state(program):
     """The tuple of the helds' own values."""
     return tuple([right[2] for _, right, _ in helds(program)])

@@ -1,7 +1,6 @@
 """Ticks, and runs of them."""
 
-from tickworks.errors import BadInputs
-from tickworks.rounds import check_state, filling, first_state, helds, is_inputs
+from tickworks.rounds import check_all_inputs, check_state, filling, first_state, helds
 
 
 def streams_with(standings, words):
@@ -50,9 +49,7 @@ def tick(program, state, inputs):
 
 def ticks_from(program, state, inputs):
     """The list of what the ticks tell, up to the first one that is not good."""
-    for number, row in enumerate(inputs):
-        if not is_inputs(program, row):
-            raise BadInputs(number)
+    check_all_inputs(program, inputs)
     told = []
     for row in inputs:
         last = tick(program, state, row)

@@ -63,3 +63,18 @@ def behind_path(right, path):
     """A right side, but of a call, with the path ahead of all its streams."""
     parts = [moved(part, role, path) for role, part in parts_of(right)]
     return (right[0], *parts)
+
+
+def telling(right):
+    """The operand that tells whether there is what a right side names; of no input."""
+    found = operands(right)
+    if right[0] == "held":
+        return found[-1]
+    return found[right[2]] if right[0] == "arg" else found[0]
+
+
+def worked_from(right):
+    """The list of the operands that the value of a written-out right side is worked out from."""
+    if right[0] in ("const", "held", "input"):
+        return []
+    return [telling(right)] if right[0] == "arg" else operands(right)
