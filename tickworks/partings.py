@@ -7,7 +7,7 @@ from tickworks.sequences import order_or_ring, reached
 from tickworks.types import is_number, values_of
 
 
-def has_form(value):
+def are_functions(value):
     """Whether any value is a tuple of tuples of one or more strings."""
     if not isinstance(value, tuple):
         return False
@@ -21,7 +21,7 @@ def has_form(value):
 
 def parting_fault(streams, value):
     """What is wrong with any value as a parting of these streams, or None."""
-    if not has_form(value):
+    if not are_functions(value):
         return ("form",)
     met = {}
     for function in value:

@@ -46,7 +46,7 @@ def are_results(kind, kinds, value):
     return rows == len(value) and all([value_fault(kind, result) is None for result in value])
 
 
-def is_op(value):
+def tells_op(value):
     """Whether a tuple of three tells an op and types for which it is right."""
     word, kinds = value[1], value[2]
     if not isinstance(word, str) or word not in OPS or not are_kinds(kinds):
@@ -54,7 +54,7 @@ def is_op(value):
     return len(kinds) == OPS[word] and op_fits(word, kinds)
 
 
-def is_table(value):
+def tells_table(value):
     """Whether a tuple of four tells a table: its type, its results and its operands' types."""
     _, kind, results, kinds = value
     return type_fault(kind) is None and are_kinds(kinds) and are_results(kind, kinds, results)
@@ -65,8 +65,8 @@ def is_what(value):
     if not is_tuple(value, 3, 4):
         return False
     if value[0] == "op":
-        return len(value) == 3 and is_op(value)
-    return value[0] == "table" and len(value) == 4 and is_table(value)
+        return len(value) == 3 and tells_op(value)
+    return value[0] == "table" and len(value) == 4 and tells_table(value)
 
 
 def are_cells(value, many):
