@@ -1,7 +1,7 @@
 """Items: what is to be known of each stream in a tick, and what each of them asks for."""
 
 from tickworks.errors import Ring, UnknownName
-from tickworks.sequences import order_or_ring, reached
+from tickworks.sequences import each_once, order_or_ring, reached
 from tickworks.shapes import telling, worked_from
 
 
@@ -58,18 +58,12 @@ def reach(program, item):
     return [other for other in asked if other in met]
 
 
-def streams_in(ring):
-    """The tuple of the streams of some items, each once, where it stands first."""
-    found = {stream: True for stream, _ in ring}
-    return tuple(found)
-
-
 def levels(program):
     """The dict from all items to their levels; Ring if the program has a ring."""
     asked = asked_items(program)
     word, found = order_or_ring(list(asked), asked)
     if word == "ring":
-        raise Ring(streams_in(found))
+        raise Ring(each_once([stream for stream, _ in found]))
     told = {}
     for item in found:
         told[item] = 1 + max([told[other] for other in asked[item]], default=0)

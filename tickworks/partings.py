@@ -201,17 +201,21 @@ def by_outputs(program, name):
     return by_asking(alone(program, name))
 
 
-def do_serve(node, asked, parting):
-    """Whether a parting of a node alone, or of some of its streams, does not keep it from serving."""
-    if order_in(asked, parting)[0] == "ring":
-        return False
+def unneeded(node, asked, parting):
+    """The first pair of an output and an input that its function asks for, but it does not need, or None."""
     inputs = inputs_asked(asked, parting, sources_of(node))
     for output in node.main()[2]:
         needed = reached(asked, [output])
         for function, words in zip(parting, inputs):
-            if output in function and not all([word in needed for word in words]):
-                return False
-    return True
+            too_much = [word for word in words if word not in needed]
+            if output in function and len(too_much) > 0:
+                return (output, too_much[0])
+    return None
+
+
+def do_serve(node, asked, parting):
+    """Whether a parting of a node alone, or of some of its streams, does not keep it from serving."""
+    return order_in(asked, parting)[0] == "order" and unneeded(node, asked, parting) is None
 
 
 def serving_cuts(node, asked, streams, many):

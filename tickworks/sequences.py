@@ -1,6 +1,12 @@
 """Things that ask for each other: what is reached from some, and orders and rings of all."""
 
 
+def each_once(things):
+    """The tuple of some strings, each once, where it stands first."""
+    found = {thing: True for thing in things}
+    return tuple(found)
+
+
 def reached(asked, begun):
     """The dict, each with True, of what these ask for, straight or through others; asked tells what each asks for."""
     met = {}
