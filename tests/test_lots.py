@@ -12,6 +12,7 @@ from tickworks.nodes import Program
 from tickworks.nodetexts import read_program
 from tickworks.rounds import first_state
 from tickworks.runs import run, tick
+from tickworks.tables import table_of
 from tickworks.types import values_of
 
 ADDS = Program([SUM])
@@ -42,6 +43,19 @@ n = held count(6) 0 m b
 o = table count(6) 1 2 3 4 5 0 : n
 m = table count(6) 0 1 1 2 2 3 3 4 4 5 5 0 : n b
 """)
+
+
+def four_hundred(begins):
+    """A program that is at its first state again after four hundred ticks, perhaps one more at first."""
+    five, pair = ("count", 5), ("pair", FOUR, FOUR)
+    more = ((("f",), ("held", YES_NO, "no", "o", "b")),) if begins else ()
+    return Program([("n", (("b", YES_NO),), ("o",), (
+        (("p",), ("held", pair, (0, 0), "q", "b")),
+        (("q",), ("table", pair, tuple(((k + 1) % 16 // 4, (k + 1) % 4) for k in range(16)), ("p",))),
+        (("u",), ("held", five, 0, "v", "b")), (("v",), ("table", five, (1, 2, 3, 4, 0), ("u",))),
+        (("w",), ("held", five, 0, "x", "b")),
+        (("x",), ("table", five, tuple((k + (j == 4)) % 5 for k in range(5) for j in range(5)), ("w", "u"))),
+        *more, (("o",), ("op", "same", ("u", "u")))))])
 
 
 def any_programs(seed, count):
@@ -153,23 +167,16 @@ class TestClosed(Case):
             (("k",), ("op", "pair", ("f", "s"))), (("m",), ("op", "same", ("h", "i")))))])
         self.exact(len(closed_lot(many)[1]), 6)
 
-    def test_four_hundred_and_more(self):
-        def counting(one, two):
-            return read_program(f"""node main
-in b lot(no,yes)
-out s
-h = held count(6) 0 i b
-i = table count(6) {' '.join(str(k) for p in range(6) for k in (p, (p + 1) % 6))} : h b
-g = held pair(count(4),count({one})) (0,0) k b
-k = table pair(count(4),count({one})) {' '.join(f'({(n + 1) % (4 * one) // one},{(n + 1) % (4 * one) % one})' for n in range(4 * one))} : g
-d = held count({two}) 0 e b
-e = table count({two}) {' '.join(str((p + 1) % two) for p in range(two))} : d
-s = op same h i
-""")
-        # 6 * 20 states, each with its own count modulo 3.
-        self.exact(len(self.check(counting(5, 3))[1]), 6 * 60)
-        self.raised(TooMany, {}, closed_lot, counting(6, 5))
-        self.exact(len(self.check(counting(6, 2))[1]), 6 * 24)
+    def test_just_four_hundred(self):
+        made = four_hundred(False)
+        self.exact(len(self.check(made)[1]), 400)
+        self.exact(len(wish_kept(made, "o", ["yes"])[1]), 400)
+        self.exact(len(table_of(made)), 400)
+        more = four_hundred(True)
+        self.raised(TooMany, {}, closed_lot, more)
+        self.raised(TooMany, {}, wish_kept, more, "o", ["yes"])
+        self.raised(TooMany, {}, table_of, more)
+        self.exact(wish_kept(more, "o", ["no"]), ("broken", (("no",),)))
 
     def test_drawn_programs(self):
         words = {"closed": 0, "run": 0}

@@ -5,7 +5,7 @@ import random
 from cases import Case, NOTHINGS
 from drawn import swift_programs
 from planwords import drawn_plan, drawn_where, fault_by_words, moving, wanted
-from samples import ALL, FOUR, HALVES, KEEPS, NESTED, RARELY, SUM, TWICE
+from samples import ALL, FOUR, KEEPS, NESTED, RARELY, SUM, TWICE
 from tickworks.errors import UnknownName
 from tickworks.nodes import Program
 from tickworks.nodetexts import read_program
@@ -192,7 +192,8 @@ class TestForms(Case):
     def test_channels(self):
         for channel in [*NOTHINGS, ("m", 0, 1, 0), ("m", 0, 1, 0, 1, 1), ["m", 0, 1, 0, 1], ("q", 0, 1, 0, 1),
                         ("m", 0, 0, 0, 1),
-                        ("m", 0, 2, 0, 1), ("m", -1, 1, 0, 1), ("m", 0, True, 0, 1), ("m", False, 1, 0, 1),
+                        ("m", 0, 2, 0, 1), ("m", 2, 1, 0, 1), ("m", 2, 0, 0, 1), ("m", -1, 1, 0, 1),
+                        ("m", 1, -1, 0, 1), ("m", 0, True, 0, 1), ("m", False, 1, 0, 1),
                         ("m", 0, 1, True, 1), ("m", 0, 1, False, 1), ("m", 0, 1, 2, 1), ("m", 0, 1, -1, 1),
                         ("m", 0, 1, 0, 0), ("m", 0, 1, 0, 5), ("m", 0, 1, 0, True), ("m", 0, 1, 0, None),
                         ("m", 0, 1, None, 1), ("m", (0,), 1, 0, 1), (("m",), 0, 1, 0, 1), (["m"], 0, 1, 0, 1),

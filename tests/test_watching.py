@@ -214,6 +214,38 @@ def rounds_of(many):
         (("o",), ("op", "same", (name, name)))))
 
 
+def by_fives(begins):
+    """A node that is at its first state again after 25 ticks, perhaps one more at first."""
+    five, again = ("count", 5), ("lot", ("no", "yes"))
+    more = ((("f",), ("held", again, "no", "o", "b")),) if begins else ()
+    return ("n", (("b", again),), ("o",), (
+        (("u",), ("held", five, 0, "v", "b")), (("v",), ("table", five, (1, 2, 3, 4, 0), ("u",))),
+        (("w",), ("held", five, 0, "x", "b")),
+        (("x",), ("table", five, tuple((k + (j == 4)) % 5 for k in range(5) for j in range(5)), ("w", "u"))),
+        *more, (("o",), ("op", "same", ("u", "u")))))
+
+
+class TestFourHundred(Case):
+    """Caps that are not told: just as many pairs, and one more"""
+
+    def test_four_hundred_pairs(self):
+        plant = Plant([rounds_of(16)])
+        self.exact(right_from(plant, [by_fives(False)]), [0])
+        word, pairs = would_part(plant, [("swap", by_fives(False))])
+        self.exact([word, len(pairs)], ["alike", 400])
+        self.exact(len(alike(Program([rounds_of(16)]), Program([by_fives(False)]))[1]), 400)
+        self.exact(plant.do(("take", [by_fives(False)])), 1)
+
+    def test_one_more(self):
+        plant = Plant([rounds_of(16)])
+        self.raised(TooMany, {}, right_from, plant, [by_fives(True)])
+        self.raised(TooMany, {}, would_part, plant, [("swap", by_fives(True))])
+        self.raised(TooMany, {}, would_part, plant, [("take", [by_fives(True)])])
+        self.raised(TooMany, {}, plant.do, ("take", [by_fives(True)]))
+        self.raised(TooMany, {}, alike, Program([rounds_of(16)]), Program([by_fives(True)]))
+        self.exact(len(plant), 1)
+
+
 class TestRightFrom(Case):
     """right_from"""
 

@@ -91,9 +91,10 @@ def groups(plan):
         joined[end].append(start)
     found = []
     for place in joined:
-        group = sorted({**reached(joined, [place]), place: True})
+        met = reached(joined, [place])
+        group = tuple([other for other in joined if other == place or other in met])
         if group[0] == place:
-            found.append(tuple(group))
+            found.append(group)
     return tuple(found)
 
 

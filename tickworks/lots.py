@@ -20,7 +20,7 @@ def walked_states(program, states, wrong):
     def leave(state, row):
         told = tick(program, state, row)
         end = wrong(told)
-        return end, told[2] if end is None else None
+        return (None, told[2]) if end is None else (end, None)
 
     return walked(first_state(program), input_rows(program), states, leave)
 

@@ -30,7 +30,7 @@ def walked_pairs(one, other, first, most):
         told = one.tick_at(pair[0], row)
         more = other.tick_at(pair[1], row)
         if are_parted(told, more):
-            return True, None
-        return None, (told[2], more[2]) if told[0] == "good" else None
+            return (True, None)
+        return (None, (told[2], more[2])) if told[0] == "good" else (None, None)
 
     return walked(first, input_rows(one.program), most, leave)

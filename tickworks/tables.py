@@ -25,7 +25,7 @@ def table_of(program, *, states=400):
 
     def leave(state, row):
         told = ticks.tick_at(state, row)
-        return None, told[2] if told[0] == "good" else None
+        return (None, told[2]) if told[0] == "good" else (None, None)
 
     found, _ = walked(first_state(program), rows, states, leave)
     numbers = {state: number for number, state in enumerate(found)}
@@ -41,11 +41,9 @@ def is_told(value):
 
 def is_entry(value, many):
     """Whether any value is an entry of a table of so many lines."""
-    if not is_tuple(value, 1, 3) or not isinstance(value[0], str):
-        return False
-    if len(value) == 1:
+    if is_tuple(value, 1, 1):
         return value[0] in BAD
-    if len(value) != 3 or value[0] != "good" or not isinstance(value[1], tuple):
+    if not is_tuple(value, 3, 3) or value[0] != "good" or not isinstance(value[1], tuple):
         return False
     if not all([output is None or is_told(output) for output in value[1]]):
         return False
@@ -115,7 +113,7 @@ def least_table(table):
 
     def leave(number, place):
         entry = table[number][place]
-        return None, firsts[kinds[entry[2]]] if entry[0] == "good" else None
+        return (None, firsts[kinds[entry[2]]]) if entry[0] == "good" else (None, None)
 
     places = list(range(len(table[0])))
     met, _ = walked(0, places, len(table), leave)
@@ -131,8 +129,8 @@ def tables_parted(one, other):
     def leave(pair, place):
         entry, more = one[pair[0]][place], other[pair[1]][place]
         if are_parted(entry, more):
-            return True, None
-        return None, (entry[2], more[2]) if entry[0] == "good" else None
+            return (True, None)
+        return (None, (entry[2], more[2])) if entry[0] == "good" else (None, None)
 
     places = list(range(len(one[0])))
     found, end = walked((0, 0), places, len(one) * len(other), leave)

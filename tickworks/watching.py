@@ -59,11 +59,14 @@ class Comparison:
     def is_right(self, program, state):
         """Whether the program, its state led from this one, goes alike with another program from there."""
         number = self.number_of(program)
-        if (number, state) not in self._answers:
-            pair = (state, led_state(program, state, self.ticks.program))
-            _, end = walked_pairs(self.others[number], self.ticks, pair, MOST_PAIRS)
-            self._answers[(number, state)] = end is None
-        return self._answers[(number, state)]
+        pair = (state, led_state(program, state, self.ticks.program))
+        if (number, pair) not in self._answers:
+            found, end = walked_pairs(self.others[number], self.ticks, pair, MOST_PAIRS)
+            # Where two programs go alike, they do so from all pairs that are met.
+            met = found if end is None else [pair]
+            for one in met:
+                self._answers[(number, one)] = end is None
+        return self._answers[(number, pair)]
 
 
 def right_from(plant, nodes):
