@@ -44,10 +44,11 @@ def graph_of(node, parting, user):
     points = {}
     for names, right in main[3]:
         if right[0] == "call":
-            points.update(call_points(node, parting, names, right, told))
+            for point, wanted in call_points(node, parting, names, right, told).items():
+                points[point] = wanted
         else:
             points[names[0]] = worked_from(right) + conds_of(told[names[0]])
-    return {point: [other for other in wanted if other in points] for point, wanted in points.items()}
+    return {one: [other for other in asked if other in points] for one, asked in points.items()}
 
 
 def ordered(node, parting, user):
